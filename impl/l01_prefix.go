@@ -31,6 +31,11 @@ const (
 	partAll
 )
 
+// compare orders prefixes, even invalid ones, by Net and then by Len.
+func (p Prefix) compare(q Prefix) int {
+	return cmp.Or(cmp.Compare(p.Net, q.Net), cmp.Compare(p.Len, q.Len))
+}
+
 func addrOk(a int) bool {
 	return a >= 0 && a < 1<<MaxBits
 }
