@@ -51,17 +51,22 @@ func (b *bundle) look() {
 	slices.Sort(b.hops)
 }
 
-// before returns the last node but one of the preferred path, or -1.
-func (b *bundle) before() int {
-	if len(b.paths) == 0 {
-		return -1
-	}
-	path := slices.MinFunc(b.paths, func(a, b []int) int {
+// preferred expects that there is a path.
+func (b *bundle) preferred() []int {
+	return slices.MinFunc(b.paths, func(a, b []int) int {
 		if len(a) != len(b) {
 			return len(a) - len(b)
 		}
 		return slices.Compare(a, b)
 	})
+}
+
+// before returns the last node but one of the preferred path, or -1.
+func (b *bundle) before() int {
+	if len(b.paths) == 0 {
+		return -1
+	}
+	path := b.preferred()
 	if len(path) == 1 {
 		return -1
 	}
