@@ -1415,6 +1415,19 @@ func TestSchedulesDoNotMatterForNets(t *testing.T) {
 	}
 }
 
+// checkGoroutines expects the number of goroutines that there were before.
+func checkGoroutines(t *testing.T, before int) {
+	t.Helper()
+	// A goroutine that has done all its work may take a moment to go.
+	for range 1000 {
+		if runtime.NumGoroutine() <= before {
+			return
+		}
+		time.Sleep(time.Millisecond)
+	}
+	t.Errorf("%d goroutines were there before, and %d are now", before, runtime.NumGoroutine())
+}
+
 // TestNoGoroutineGoesOn: whatever was started has ended when the call returns.
 func TestNoGoroutineGoesOn(t *testing.T) {
 	before := runtime.NumGoroutine()
@@ -1425,12 +1438,5 @@ func TestNoGoroutineGoesOn(t *testing.T) {
 		impl.Agree(n)
 		impl.NetOk(n)
 	}
-	// A goroutine that has done all its work may take a moment to go.
-	for range 1000 {
-		if runtime.NumGoroutine() <= before {
-			return
-		}
-		time.Sleep(time.Millisecond)
-	}
-	t.Errorf("%d goroutines were there before, and %d are now", before, runtime.NumGoroutine())
+	checkGoroutines(t, before)
 }
